@@ -1,0 +1,1 @@
+"""Steps of ciphers, tags and digests."""
