@@ -42,3 +42,42 @@ def mul(a, b):
 
 def inverse(x):
     return [0] + [field_inverse(x[i]) for i in range(64)]
+
+
+def shared_parity(p, q):
+    shared = p & q
+    total = 0
+    for place in range(8):
+        total = total ^ bit(shared, place)
+    return total
+
+
+def affine_byte(byte, matrix, c):
+    # A matrix tells the row of the highest bit first, so each row's bit
+    # goes in below those of the rows before it.
+    image = 0
+    for row in matrix:
+        image = (image << 1) | shared_parity(row, byte)
+    return image ^ c
+
+
+def matrix_beside(m, i):
+    start = i - i % 8
+    return m[start:start + 8]
+
+
+def affine(x, m, c):
+    return [0] + [affine_byte(x[i], matrix_beside(m, i), c) for i in range(64)]
+
+
+def composed_row(row, b):
+    # A bit that a's row asks for is one that b makes, by b's own row for it.
+    total = 0
+    for place in range(8):
+        if bit(row, place) == 1:
+            total = total ^ b[7 - place]
+    return total
+
+
+def composed(a, b):
+    return [0] + [composed_row(a[i], b) for i in range(8)]

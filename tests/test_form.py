@@ -14,6 +14,8 @@ PACKAGE = pathlib.Path(bytesteps.__file__).parent
 INTERFACE = {
     "mul": ["a", "b"],
     "inverse": ["x"],
+    "affine": ["x", "m", "c"],
+    "composed": ["a", "b"],
 }
 
 ALLOWED_BUILTINS = set(
