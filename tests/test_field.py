@@ -5,19 +5,8 @@ import io
 import unittest
 
 from cipherparts.bytesteps import inverse, mul
+from tests.reference import long_product
 from tests.support import AnswerChecks, rows_of, spread
-
-
-def long_product(a, b):
-    """The field's product: all of the polynomial's product first, then the division's remainder."""
-    product = 0
-    for i in range(8):
-        for j in range(8):
-            product ^= ((a >> i) & (b >> j) & 1) << (i + j)
-    for degree in range(14, 7, -1):
-        if product >> degree & 1:
-            product ^= 0b100011011 << (degree - 8)
-    return product
 
 
 class Mul(AnswerChecks, unittest.TestCase):

@@ -16,6 +16,8 @@ INTERFACE = {
     "inverse": ["x"],
     "affine": ["x", "m", "c"],
     "composed": ["a", "b"],
+    "step": ["s", "k", "which"],
+    "expand": ["key", "n"],
 }
 
 ALLOWED_BUILTINS = set(

@@ -5,6 +5,7 @@ import io
 import unittest
 
 from cipherparts.bytesteps import affine, composed, inverse
+from tests.reference import CIPHER, counted
 from tests.support import AnswerChecks, rows_of, spread
 
 UNCHANGED = [128, 64, 32, 16, 8, 4, 2, 1]
@@ -15,20 +16,9 @@ NOTHING = [0] * 8
 SHIFT_UP = [64, 32, 16, 8, 4, 2, 1, 0]
 SHIFT_DOWN = [0, 128, 64, 32, 16, 8, 4, 2]
 TOP_TO_BOTTOM = [0, 0, 0, 0, 0, 0, 0, 128]
-# The cipher's own substitution: bit i is the sum of bits i, i + 4, .. i + 7.
-CIPHER = [0xF8, 0x7C, 0x3E, 0x1F, 0x8F, 0xC7, 0xE3, 0xF1]
 MIXED = spread(8, 37, 5)
 OTHER = spread(8, 91, 130)
 MATRICES = [UNCHANGED, MIRROR, NOTHING, SHIFT_UP, SHIFT_DOWN, TOP_TO_BOTTOM, CIPHER, MIXED, OTHER, [255] * 8]
-
-
-def counted(byte, matrix, c):
-    """The affine image, bit by bit, by counting the ones in the written form."""
-    image = 0
-    for i in range(8):
-        ones = bin(matrix[7 - i] & byte).count("1")
-        image += (ones + c // 2 ** i) % 2 * 2 ** i
-    return image
 
 
 class Affine(AnswerChecks, unittest.TestCase):

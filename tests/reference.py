@@ -1,0 +1,130 @@
+"""The same answers, worked out in another way than the package does."""
+
+# The cipher's own substitution: bit i is the sum of bits i, i + 4, .. i + 7.
+CIPHER = [0xF8, 0x7C, 0x3E, 0x1F, 0x8F, 0xC7, 0xE3, 0xF1]
+
+
+def long_product(a, b):
+    """The field's product: all of the polynomial's product first, then the division's remainder."""
+    product = 0
+    for i in range(8):
+        for j in range(8):
+            product ^= ((a >> i) & (b >> j) & 1) << (i + j)
+    for degree in range(14, 7, -1):
+        if product >> degree & 1:
+            product ^= 0b100011011 << (degree - 8)
+    return product
+
+
+def counted(byte, matrix, c):
+    """The affine image, bit by bit, by counting the ones in the written form."""
+    image = 0
+    for i in range(8):
+        ones = bin(matrix[7 - i] & byte).count("1")
+        image += (ones + c // 2 ** i) % 2 * 2 ** i
+    return image
+
+
+def substitution_table():
+    """Each byte's substitute: its inverse is looked for, not worked out."""
+    table = []
+    for x in range(256):
+        partners = [y for y in range(256) if long_product(x, y) == 1]
+        table.append(counted(partners[0] if partners else 0, CIPHER, 0x63))
+    return table
+
+
+SUBSTITUTES = substitution_table()
+SUBSTITUTES_BACK = {substitute: x for x, substitute in enumerate(SUBSTITUTES)}
+MIXING = [[2, 3, 1, 1], [1, 2, 3, 1], [1, 1, 2, 3], [3, 1, 1, 2]]
+MIXING_BACK = [[14, 11, 13, 9], [9, 14, 11, 13], [13, 9, 14, 11], [11, 13, 9, 14]]
+
+
+def grid_of(state):
+    """The state's rows: byte 4c + r lies in row r, column c."""
+    return [[state[4 * c + r] for c in range(4)] for r in range(4)]
+
+
+def state_of(grid):
+    return [grid[r][c] for c in range(4) for r in range(4)]
+
+
+def substitute(state):
+    return [SUBSTITUTES[x] for x in state]
+
+
+def substitute_back(state):
+    return [SUBSTITUTES_BACK[x] for x in state]
+
+
+def shift(state):
+    """Row r goes r places to the left."""
+    return state_of([row[r:] + row[:r] for r, row in enumerate(grid_of(state))])
+
+
+def shift_back(state):
+    return state_of([row[4 - r:] + row[:4 - r] for r, row in enumerate(grid_of(state))])
+
+
+def mix_by(factors, state):
+    """Each column by the whole matrix of factors, product by product."""
+    grid = grid_of(state)
+    mixed = [[0] * 4 for r in range(4)]
+    for r in range(4):
+        for c in range(4):
+            for j in range(4):
+                mixed[r][c] ^= long_product(factors[r][j], grid[j][c])
+    return state_of(mixed)
+
+
+def mix(state):
+    return mix_by(MIXING, state)
+
+
+def mix_back(state):
+    return mix_by(MIXING_BACK, state)
+
+
+def add(state, key):
+    return [x ^ y for x, y in zip(state, key, strict=True)]
+
+
+PARTS = {
+    0: [substitute, shift, mix],
+    1: [substitute, shift],
+    2: [shift_back, substitute_back, mix_back],
+    3: [shift_back, substitute_back],
+    4: [mix_back],
+}
+
+
+def plain_step(state, key, which):
+    if which not in PARTS:
+        return list(state)
+    for part in PARTS[which]:
+        state = part(state)
+    return add(state, key)
+
+
+def schedule(key):
+    """The round keys of FIPS 197, 5.2, word by word; a list of keys of 16 bytes."""
+    nk = len(key) // 4
+    rounds = {4: 10, 6: 12, 8: 14}[nk]
+    constants = [0x01, 0x02, 0x04, 0x08, 0x10, 0x20, 0x40, 0x80, 0x1B, 0x36]
+    words = [key[4 * i:4 * i + 4] for i in range(nk)]
+    while len(words) < 4 * (rounds + 1):
+        i = len(words)
+        word = words[-1]
+        if i % nk == 0:
+            word = substitute(word[1:] + word[:1])
+            word[0] ^= constants[i // nk - 1]
+        elif nk > 6 and i % nk == 4:
+            word = substitute(word)
+        words.append(add(words[i - nk], word))
+    return [sum(words[4 * i:4 * i + 4], []) for i in range(rounds + 1)]
+
+
+def schedule_back(keys):
+    """The keys for the way back, of the list that schedule gives."""
+    turned = keys[::-1]
+    return turned[:1] + [mix_back(key) for key in turned[1:-1]] + turned[-1:]
