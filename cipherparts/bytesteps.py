@@ -200,3 +200,33 @@ def expand(key, n):
     rounds = n // 4 + 6
     keys = round_keys(key, n, rounds)
     return [rounds] + with_count(keys) + with_count(round_keys_back(keys, rounds))
+
+
+def block_stepped(block, keys, rounds, back):
+    # The way there goes by the steps 0 and 1, the way back by 2 and 3.
+    which = 2 * back
+    state = added(block, round_key(keys, 0))
+    for number in range(1, rounds):
+        state = stepped(state, round_key(keys, number), which)
+    return stepped(state, round_key(keys, rounds), which + 1)
+
+
+def blocks(keys, rounds, back, text, n):
+    if rounds not in (10, 12, 14) or n < 0 or n > 4096:
+        return [-1]
+    row = []
+    for start in range(0, 16 * n, 16):
+        row.extend(block_stepped(text[start:start + 16], keys, rounds, back))
+    return [n] + with_count(row)
+
+
+def low_bytes(number, count):
+    return [(number >> (8 * i)) & 255 for i in range(count)]
+
+
+def carryless(a, b):
+    product = 0
+    for place in range(64):
+        if bit(b, place) == 1:
+            product = product ^ (a << place)
+    return [0] + low_bytes(product, 16)

@@ -18,6 +18,8 @@ INTERFACE = {
     "composed": ["a", "b"],
     "step": ["s", "k", "which"],
     "expand": ["key", "n"],
+    "blocks": ["keys", "rounds", "back", "text", "n"],
+    "carryless": ["a", "b"],
 }
 
 ALLOWED_BUILTINS = set(
