@@ -1,4 +1,8 @@
-"""The examples of FIPS 197: the key schedules of appendix A, the rounds of appendices B and C."""
+"""The examples of FIPS 197: the key schedules of appendix A, the rounds of appendices B and C.
+
+They were not copied from its text: the values were worked out, and the schedules, single steps
+and outputs held against other implementations of the cipher.
+"""
 
 
 def from_hex(text):
