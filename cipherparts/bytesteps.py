@@ -3,6 +3,14 @@
 # x^8 + x^4 + x^3 + x + 1, the lowest bit the constant's
 FIELD_MODULUS = 0x11B
 
+# x^7 + x^2 + x + 1, which x^128 is in the tag's field, the highest of 128 bits the constant's
+TAG_REMAINDER = 0xE1000000000000000000000000000000
+
+LOW_32_BITS = 0xFFFFFFFF
+
+# What the digest of 160 bits adds in each twenty of its eighty steps
+ADDENDS_160 = (0x5A827999, 0x6ED9EBA1, 0x8F1BBCDC, 0xCA62C1D6)
+
 # What the cipher puts in each byte's place: the inverse's image by an affine
 # step. Written out, as working it out anew for every byte of a block is slow.
 SUBSTITUTES = (
@@ -211,8 +219,12 @@ def block_stepped(block, keys, rounds, back):
     return stepped(state, round_key(keys, rounds), which + 1)
 
 
+def count_refused(n):
+    return n < 0 or n > 4096
+
+
 def blocks(keys, rounds, back, text, n):
-    if rounds not in (10, 12, 14) or n < 0 or n > 4096:
+    if rounds not in (10, 12, 14) or count_refused(n):
         return [-1]
     row = []
     for start in range(0, 16 * n, 16):
@@ -230,3 +242,109 @@ def carryless(a, b):
         if bit(b, place) == 1:
             product = product ^ (a << place)
     return [0] + low_bytes(product, 16)
+
+
+def high_number(row):
+    # The highest byte comes first.
+    number = 0
+    for byte in row:
+        number = (number << 8) | byte
+    return number
+
+
+def high_bytes(number, count):
+    return list(reversed(low_bytes(number, count)))
+
+
+def tag_times_x(a):
+    # The constant's bit is the highest, so a higher power lies further down.
+    if bit(a, 0) == 1:
+        return (a >> 1) ^ TAG_REMAINDER
+    return a >> 1
+
+
+def tag_product(a, b):
+    total = 0
+    multiple = a
+    for place in range(127, -1, -1):
+        if bit(b, place) == 1:
+            total = total ^ multiple
+        multiple = tag_times_x(multiple)
+    return total
+
+
+def tag(h, y, text, n):
+    if count_refused(n):
+        return [-1]
+    factor = high_number(h)
+    total = high_number(y)
+    for start in range(0, 16 * n, 16):
+        total = tag_product(total ^ high_number(text[start:start + 16]), factor)
+    return [n] + with_count(high_bytes(total, 16))
+
+
+def rotated(word, places):
+    return ((word << places) | (word >> (32 - places))) & LOW_32_BITS
+
+
+def word_sums(words, others):
+    return [(words[i] + others[i]) & LOW_32_BITS for i in range(len(words))]
+
+
+def block_words(block):
+    return [high_number(block[i:i + 4]) for i in range(0, 64, 4)]
+
+
+def state_words(state):
+    # A state tells each word's lowest byte first, a block its highest.
+    return [high_number(list(reversed(state[i:i + 4]))) for i in range(0, len(state), 4)]
+
+
+def state_bytes(words):
+    row = []
+    for word in words:
+        row.extend(low_bytes(word, 4))
+    return row
+
+
+def chosen(p, q, r):
+    # Where p has a bit set, q's bit, else r's.
+    return r ^ (p & (q ^ r))
+
+
+def majority(p, q, r):
+    return (p & q) | (r & (p | q))
+
+
+def joined_160(p, q, r, twenty):
+    if twenty == 0:
+        return chosen(p, q, r)
+    if twenty == 2:
+        return majority(p, q, r)
+    return p ^ q ^ r
+
+
+def schedule_160(block):
+    words = block_words(block)
+    for i in range(16, 80):
+        words.append(rotated(words[i - 3] ^ words[i - 8] ^ words[i - 14] ^ words[i - 16], 1))
+    return words
+
+
+def compressed_160(state, block):
+    schedule = schedule_160(block)
+    s = state
+    for i in range(80):
+        joined = joined_160(s[1], s[2], s[3], i // 20)
+        first = (rotated(s[0], 5) + joined + s[4] + ADDENDS_160[i // 20] + schedule[i]) & LOW_32_BITS
+        s = [first, s[0], rotated(s[1], 30), s[2], s[3]]
+    return word_sums(state, s)
+
+
+def digest160(state, text, n):
+    if count_refused(n):
+        return [-1]
+    words = state_words(state)
+    for start in range(0, 64 * n, 64):
+        words = compressed_160(words, text[start:start + 64])
+    return [n] + with_count(state_bytes(words))

@@ -1,7 +1,11 @@
-"""The examples of FIPS 197: the key schedules of appendix A, the rounds of appendices B and C.
+"""The published examples.
 
-They were not copied from its text: the values were worked out, and the schedules, single steps
-and outputs held against other implementations of the cipher.
+Of FIPS 197: the key schedules of appendix A, the rounds of appendices B and C. Of the counter mode
+with its tag (SP 800-38D): the examples that go with its proposal. Of FIPS 180: the texts of its
+examples and their digests.
+
+They were not copied from the publications: the values of FIPS 197 were worked out, the others written
+down from memory, and all were held against other implementations.
 """
 
 
@@ -183,3 +187,45 @@ EXAMPLES = [(KEY_B, TEXT_B, STATES_B), (KEY_C1, TEXT_C1, STATES_C1), (KEY_C2, TE
             (KEY_C3, TEXT_C3, STATES_C3)]
 EXAMPLES_BACK = [(KEY_C1, TEXT_C1, STATES_C1, STATES_BACK_C1), (KEY_C2, TEXT_C2, STATES_C2, STATES_BACK_C2),
                  (KEY_C3, TEXT_C3, STATES_C3, STATES_BACK_C3)]
+
+# The counter mode's examples: the key, the first counter's text, what is only
+# tagged, the text, the ciphertext, the tag's own function of the last two
+# with their lengths, and the tag.
+LONG_TEXT = from_hex("""
+    d9313225f88406e5a55909c5aff5269a 86a7a9531534f7da2e4c303d8a318a72
+    1c3c0c95956809532fcf0e2449a6b525 b16aedf5aa0de657ba637b391aafd255
+""")
+BESIDE = from_hex("feedfacedeadbeeffeedfacedeadbeefabaddad2")
+KEY_G = from_hex("feffe9928665731c6d6a8f9467308308")
+START_G = from_hex("cafebabefacedbaddecaf888")
+SEALED = [
+    ([0] * 16, [0] * 12, [], [], [],
+     from_hex("00000000000000000000000000000000"), from_hex("58e2fccefa7e3061367f1d57a4e7455a")),
+    ([0] * 16, [0] * 12, [], [0] * 16, from_hex("0388dace60b6a392f328c2b971b2fe78"),
+     from_hex("f38cbb1ad69223dcc3457ae5b6b0f885"), from_hex("ab6e47d42cec13bdf53a67b21257bddf")),
+    (KEY_G, START_G, [], LONG_TEXT, from_hex("""
+        42831ec2217774244b7221b784d0d49c e3aa212f2c02a4e035c17e2329aca12e
+        21d514b25466931c7d8f6a5aac84aa05 1ba30b396a0aac973d58e091473f5985
+     """), from_hex("7f1b32b81b820d02614f8895ac1d4eac"), from_hex("4d5c2af327cd64a62cf35abd2ba6fab4")),
+    (KEY_G, START_G, BESIDE, LONG_TEXT[:60], from_hex("""
+        42831ec2217774244b7221b784d0d49c e3aa212f2c02a4e035c17e2329aca12e
+        21d514b25466931c7d8f6a5aac84aa05 1ba30b396a0aac973d58e091
+     """), from_hex("698e57f70e6ecc7fd9463b7260a9ae5f"), from_hex("5bc94fbc3221a5db94fae95ae7121a47")),
+    (KEY_G + KEY_G[:8], START_G, BESIDE, LONG_TEXT[:60], from_hex("""
+        3980ca0b3c00e841eb06fac4872a2757 859e1ceaa6efd984628593b40ca1e19c
+        7d773d00c144c525ac619d18c84a3f47 18e2448b2fe324d9ccda2710
+     """), from_hex("ed2ce3062e4a8ec06db8b4c490e8a268"), from_hex("2519498e80f1478f37ba55bd6d27618c")),
+    (KEY_G + KEY_G, START_G, BESIDE, LONG_TEXT[:60], from_hex("""
+        522dc1f099567d07f47f37a32a84427d 643a8cdcbfe5c0c97598a2bd2555d1aa
+        8cb08e48590dbb3da7b08b1056828838 c5f61e6393ba7a0abcc9f662
+     """), from_hex("8bd0c4d8aacd391e67cca447e8c38f65"), from_hex("76fc6ece0f4e1768cddf8853bb2d551b")),
+]
+
+# The digests: the words at the start, and the digests of texts.
+START_160 = [0x67452301, 0xEFCDAB89, 0x98BADCFE, 0x10325476, 0xC3D2E1F0]
+TWO_BLOCKS = "abcdbcdecdefdefgefghfghighijhijkijkljklmklmnlmnomnopnopq"
+DIGESTS_160 = {
+    "": "da39a3ee5e6b4b0d3255bfef95601890afd80709",
+    "abc": "a9993e364706816aba3e25717850c26c9cd0d89d",
+    TWO_BLOCKS: "84983e441c3bd26ebaae4aa1f95129e5e54670f1",
+}

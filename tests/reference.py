@@ -1,5 +1,8 @@
 """The same answers, worked out in another way than the package does."""
 
+import math
+import struct
+
 # The cipher's own substitution: bit i is the sum of bits i, i + 4, .. i + 7.
 CIPHER = [0xF8, 0x7C, 0x3E, 0x1F, 0x8F, 0xC7, 0xE3, 0xF1]
 
@@ -128,3 +131,81 @@ def schedule_back(keys):
     """The keys for the way back, of the list that schedule gives."""
     turned = keys[::-1]
     return turned[:1] + [mix_back(key) for key in turned[1:-1]] + turned[-1:]
+
+
+def tag_coefficients(block):
+    """A block as a polynomial of the tag's field, the constant's coefficient first."""
+    return [int(sign) for byte in block for sign in f"{byte:08b}"]
+
+
+def tag_block(coefficients):
+    return [int("".join(str(c) for c in coefficients[i:i + 8]), 2) for i in range(0, 128, 8)]
+
+
+def tag_remainder(coefficients):
+    """What x^128 + x^7 + x^2 + x + 1 leaves of a polynomial, by long division."""
+    left = list(coefficients)
+    for degree in range(len(left) - 1, 127, -1):
+        if left[degree]:
+            for power in (128, 7, 2, 1, 0):
+                left[degree - 128 + power] ^= 1
+    return left[:128]
+
+
+def tag_field_product(block, other):
+    """All of the polynomials' product first, then the division's remainder."""
+    product = [0] * 255
+    factors = tag_coefficients(other)
+    for i, coefficient in enumerate(tag_coefficients(block)):
+        if coefficient:
+            for j in range(128):
+                product[i + j] ^= factors[j]
+    return tag_block(tag_remainder(product))
+
+
+def plain_tag(h, y, text):
+    for i in range(0, len(text), 16):
+        y = tag_field_product(add(y, text[i:i + 16]), h)
+    return y
+
+
+def turned_left(word, places):
+    """A word of 32 bits, its written form turned."""
+    signs = f"{word:032b}"
+    return int(signs[places:] + signs[:places], 2)
+
+
+def place_by_place(rule, *words):
+    """The word whose bit at each of 32 places the rule makes of the words' bits there."""
+    return sum(rule(*[word >> i & 1 for word in words]) << i for i in range(32))
+
+
+def choice(p, q, r):
+    return q if p else r
+
+
+def most(p, q, r):
+    return 1 if p + q + r >= 2 else 0
+
+
+def parity(*bits):
+    return sum(bits) % 2
+
+
+# The first 30 binary digits behind the point of the square roots of 2, 3, 5 and 10, and those ahead of it.
+ROOTS_160 = [math.isqrt(square << 60) for square in (2, 3, 5, 10)]
+RULES_160 = [choice, parity, most, parity]
+
+
+def plain_160(words, block):
+    """FIPS 180, 6.1.3: the digest of 160 bits by a queue of sixteen words; words is a list of five."""
+    queue = list(struct.unpack(">16I", bytes(block)))
+    a, b, c, d, e = words
+    for t in range(80):
+        word = queue.pop(0)
+        queue.append(turned_left(place_by_place(parity, word, queue[1], queue[7], queue[12]), 1))
+        mixed = place_by_place(RULES_160[t // 20], b, c, d)
+        e = (turned_left(a, 5) + mixed + e + word + ROOTS_160[t // 20]) % 2 ** 32
+        b = turned_left(b, 30)
+        a, b, c, d, e = e, a, b, c, d
+    return [(old + new) % 2 ** 32 for old, new in zip(words, [a, b, c, d, e], strict=True)]

@@ -1,5 +1,9 @@
 """What several tests share."""
 
+LOWEST, HIGHEST = -2147483648, 2147483647
+# Numbers of blocks that are refused, whatever else is handed in.
+REFUSED_N = [-1, 4097, -2, -16, -32, -4096, 5000, 65536, LOWEST, HIGHEST]
+
 
 def refuse(*args, **kwargs):
     raise AssertionError("what is handed in was changed")
@@ -33,6 +37,21 @@ class AnswerChecks:
         for value in answer:
             self.assertIs(type(value), int)
             self.assertTrue(0 <= value <= 255, value)
+
+    def check_row(self, answer, n, count):
+        """n, then one row of count bytes with its count ahead."""
+        self.assertIs(type(answer), list)
+        self.assertEqual(answer[:2], [n, count])
+        self.assertEqual(len(answer), 2 + count)
+        for value in answer:
+            self.assertIs(type(value), int)
+        for value in answer[2:]:
+            self.assertTrue(0 <= value <= 255, value)
+
+    def check_refused(self, answer):
+        self.assertIs(type(answer), list)
+        self.assertEqual(answer, [-1])
+        self.assertIs(type(answer[0]), int)
 
     def check_keeps_nothing(self, function, first, other):
         """first and other are rows of arguments; the lists in them are watched."""

@@ -7,12 +7,10 @@ import unittest
 from cipherparts.bytesteps import blocks, expand, step
 from tests.published import EXAMPLES, EXAMPLES_BACK
 from tests.reference import add, plain_step, schedule, schedule_back
-from tests.support import AnswerChecks, rows_of, spread
+from tests.support import AnswerChecks, HIGHEST, LOWEST, REFUSED_N, rows_of, spread
 
 ROUNDS = {16: 10, 24: 12, 32: 14}
-LOWEST, HIGHEST = -2147483648, 2147483647
 REFUSED_ROUNDS = [0, 9, 11, 13, 15, -10, -12, -14, 1, 8, 16, 20, 24, 266, LOWEST, HIGHEST]
-REFUSED_N = [-1, 4097, -2, -16, -32, -4096, 5000, 65536, LOWEST, HIGHEST]
 
 
 def both_rows(key):
@@ -33,13 +31,7 @@ def plain_block(block, keys, back):
 class Blocks(AnswerChecks, unittest.TestCase):
     def bytes_of(self, keys, rounds, back, text, n):
         answer = blocks(keys, rounds, back, text, n)
-        self.assertIs(type(answer), list)
-        self.assertEqual(answer[:2], [n, 16 * n])
-        self.assertEqual(len(answer), 2 + 16 * n)
-        for value in answer:
-            self.assertIs(type(value), int)
-        for value in answer[2:]:
-            self.assertTrue(0 <= value <= 255, value)
+        self.check_row(answer, n, 16 * n)
         return answer[2:]
 
     def test_the_published_examples(self):
@@ -121,10 +113,7 @@ class Blocks(AnswerChecks, unittest.TestCase):
 
     def refused(self, rounds, n):
         for back in (0, 1):
-            answer = blocks([], rounds, back, [], n)
-            self.assertIs(type(answer), list)
-            self.assertEqual(answer, [-1], (rounds, n))
-            self.assertIs(type(answer[0]), int)
+            self.check_refused(blocks([], rounds, back, [], n))
 
     def test_refused_rounds(self):
         for rounds in REFUSED_ROUNDS:

@@ -20,6 +20,8 @@ INTERFACE = {
     "expand": ["key", "n"],
     "blocks": ["keys", "rounds", "back", "text", "n"],
     "carryless": ["a", "b"],
+    "tag": ["h", "y", "text", "n"],
+    "digest160": ["state", "text", "n"],
 }
 
 ALLOWED_BUILTINS = set(
