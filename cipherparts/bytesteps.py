@@ -11,6 +11,18 @@ LOW_32_BITS = 0xFFFFFFFF
 # What the digest of 160 bits adds in each twenty of its eighty steps
 ADDENDS_160 = (0x5A827999, 0x6ED9EBA1, 0x8F1BBCDC, 0xCA62C1D6)
 
+# What the digest of 256 bits adds in each of its steps
+ADDENDS_256 = (
+    0x428A2F98, 0x71374491, 0xB5C0FBCF, 0xE9B5DBA5, 0x3956C25B, 0x59F111F1, 0x923F82A4, 0xAB1C5ED5,
+    0xD807AA98, 0x12835B01, 0x243185BE, 0x550C7DC3, 0x72BE5D74, 0x80DEB1FE, 0x9BDC06A7, 0xC19BF174,
+    0xE49B69C1, 0xEFBE4786, 0x0FC19DC6, 0x240CA1CC, 0x2DE92C6F, 0x4A7484AA, 0x5CB0A9DC, 0x76F988DA,
+    0x983E5152, 0xA831C66D, 0xB00327C8, 0xBF597FC7, 0xC6E00BF3, 0xD5A79147, 0x06CA6351, 0x14292967,
+    0x27B70A85, 0x2E1B2138, 0x4D2C6DFC, 0x53380D13, 0x650A7354, 0x766A0ABB, 0x81C2C92E, 0x92722C85,
+    0xA2BFE8A1, 0xA81A664B, 0xC24B8B70, 0xC76C51A3, 0xD192E819, 0xD6990624, 0xF40E3585, 0x106AA070,
+    0x19A4C116, 0x1E376C08, 0x2748774C, 0x34B0BCB5, 0x391C0CB3, 0x4ED8AA4A, 0x5B9CCA4F, 0x682E6FF3,
+    0x748F82EE, 0x78A5636F, 0x84C87814, 0x8CC70208, 0x90BEFFFA, 0xA4506CEB, 0xBEF9A3F7, 0xC67178F2,
+)
+
 # What the cipher puts in each byte's place: the inverse's image by an affine
 # step. Written out, as working it out anew for every byte of a block is slow.
 SUBSTITUTES = (
@@ -341,10 +353,45 @@ def compressed_160(state, block):
     return word_sums(state, s)
 
 
-def digest160(state, text, n):
+def rotated_right(word, places):
+    return rotated(word, 32 - places)
+
+
+def three_turns(word, p, q, r):
+    return rotated_right(word, p) ^ rotated_right(word, q) ^ rotated_right(word, r)
+
+
+def schedule_256(block):
+    words = block_words(block)
+    for i in range(16, 64):
+        near = rotated_right(words[i - 2], 17) ^ rotated_right(words[i - 2], 19) ^ (words[i - 2] >> 10)
+        far = rotated_right(words[i - 15], 7) ^ rotated_right(words[i - 15], 18) ^ (words[i - 15] >> 3)
+        words.append((near + words[i - 7] + far + words[i - 16]) & LOW_32_BITS)
+    return words
+
+
+def compressed_256(state, block):
+    schedule = schedule_256(block)
+    s = state
+    for i in range(64):
+        rise = s[7] + three_turns(s[4], 6, 11, 25) + chosen(s[4], s[5], s[6]) + ADDENDS_256[i] + schedule[i]
+        first = rise + three_turns(s[0], 2, 13, 22) + majority(s[0], s[1], s[2])
+        s = [first & LOW_32_BITS] + s[:3] + [(s[3] + rise) & LOW_32_BITS] + s[4:7]
+    return word_sums(state, s)
+
+
+def digested(state, text, n, compressed):
     if count_refused(n):
         return [-1]
     words = state_words(state)
     for start in range(0, 64 * n, 64):
-        words = compressed_160(words, text[start:start + 64])
+        words = compressed(words, text[start:start + 64])
     return [n] + with_count(state_bytes(words))
+
+
+def digest160(state, text, n):
+    return digested(state, text, n, compressed_160)
+
+
+def digest256(state, text, n):
+    return digested(state, text, n, compressed_256)

@@ -209,3 +209,54 @@ def plain_160(words, block):
         b = turned_left(b, 30)
         a, b, c, d, e = e, a, b, c, d
     return [(old + new) % 2 ** 32 for old, new in zip(words, [a, b, c, d, e], strict=True)]
+
+
+def first_primes(count):
+    primes = []
+    number = 2
+    while len(primes) < count:
+        if all(number % prime for prime in primes):
+            primes.append(number)
+        number += 1
+    return primes
+
+
+def cube_root(number):
+    """The highest whole number whose cube is not above the number."""
+    low, high = 0, number + 1
+    while high - low > 1:
+        middle = (low + high) // 2
+        if middle ** 3 <= number:
+            low = middle
+        else:
+            high = middle
+    return low
+
+
+# The first 32 binary digits behind the point: of square roots the words at the start, of cube roots what is added.
+ROOTS_START_256 = [math.isqrt(prime << 64) % 2 ** 32 for prime in first_primes(8)]
+ROOTS_256 = [cube_root(prime << 96) % 2 ** 32 for prime in first_primes(64)]
+
+
+def summed_turns(word, *places):
+    """The sum, place by place, of the word turned to the right by each of places."""
+    return place_by_place(parity, *[turned_left(word, 32 - count) for count in places])
+
+
+def summed_turns_and_shift(word, one, other, shift_count):
+    signs = "0" * shift_count + f"{word:032b}"
+    return place_by_place(parity, turned_left(word, 32 - one), turned_left(word, 32 - other), int(signs[:32], 2))
+
+
+def plain_256(words, block):
+    """FIPS 180, 6.2.2: the digest of 256 bits by a queue of sixteen words; words is a list of eight."""
+    queue = list(struct.unpack(">16I", bytes(block)))
+    a, b, c, d, e, f, g, h = words
+    for t in range(64):
+        word = queue.pop(0)
+        late, early = summed_turns_and_shift(queue[13], 17, 19, 10), summed_turns_and_shift(queue[0], 7, 18, 3)
+        queue.append((late + queue[8] + early + word) % 2 ** 32)
+        one = h + summed_turns(e, 6, 11, 25) + place_by_place(choice, e, f, g) + ROOTS_256[t] + word
+        two = summed_turns(a, 2, 13, 22) + place_by_place(most, a, b, c)
+        a, b, c, d, e, f, g, h = (one + two) % 2 ** 32, a, b, c, (d + one) % 2 ** 32, e, f, g
+    return [(old + new) % 2 ** 32 for old, new in zip(words, [a, b, c, d, e, f, g, h], strict=True)]

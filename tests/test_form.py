@@ -22,6 +22,7 @@ INTERFACE = {
     "carryless": ["a", "b"],
     "tag": ["h", "y", "text", "n"],
     "digest160": ["state", "text", "n"],
+    "digest256": ["state", "text", "n"],
 }
 
 ALLOWED_BUILTINS = set(
