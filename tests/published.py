@@ -4,8 +4,10 @@ Of FIPS 197: the key schedules of appendix A, the rounds of appendices B and C. 
 with its tag (SP 800-38D): the examples that go with its proposal. Of FIPS 180: the texts of its
 examples and their digests.
 
-They were not copied from the publications: the values of FIPS 197 were worked out, the others written
-down from memory, and all were held against other implementations.
+They were not copied from the publications. The values of FIPS 197 were worked out, and held against
+other implementations. Of the counter mode the keys and texts were written down from memory; the
+ciphertexts and tags, and the values of the tag's own function, are what another implementation made
+of them. The digests were written down from memory, and held against another implementation.
 """
 
 
